@@ -1,0 +1,1 @@
+"""Rules of days that never go back: ladders, and the sets of days beside them."""
