@@ -1,6 +1,7 @@
-"""The examples of the document, word for word."""
+"""The examples of the document, word for word, and those of README.md."""
 
 import doctest
+import os
 import unittest
 
 from tests.plain import Case
@@ -24,6 +25,9 @@ LADDERS = """
 """
 
 
+README = os.path.join(os.path.dirname(os.path.dirname(os.path.abspath(__file__))), "README.md")
+
+
 class Examples(Case):
     def run_all(self, text, name, many):
         test = doctest.DocTestParser().get_doctest(text, {}, name, name, 0)
@@ -37,6 +41,11 @@ class Examples(Case):
 
     def test_ladders(self):
         self.run_all(LADDERS, "ladders.py", 4)
+
+    def test_readme(self):
+        with open(README, encoding="utf-8") as file:
+            blocks = [block for block in file.read().split("```")[1::2] if ">>>" in block]
+        self.run_all("".join(blocks), "README.md", 6)
 
 
 if __name__ == "__main__":
