@@ -3,7 +3,7 @@
 from math import gcd, lcm
 
 from ladderdays.errors import InvalidNumber, NoDays
-from ladderdays.rounds import check_numbers, check_sets, ended, narrowed, shortened
+from ladderdays.rounds import check_numbers, check_sets, copied, ended, narrowed, shortened
 
 
 def place_of(numbers, number):
@@ -18,19 +18,29 @@ def place_of(numbers, number):
     return low
 
 
-def day_from(told, day):
-    """Return the first day of a set that is not less than a day, None if there is none."""
+def many_before(told, day):
+    """Return how many days of a set are less than a day."""
     early, first, length, found = told
-    at = place_of(early, day)
-    if at < len(early):
-        return early[at]
+    if day <= first:
+        return place_of(early, day)
+    turns, place = divmod(day - first, length)
+    return len(early) + len(found) * turns + place_of(found, place)
+
+
+def nth_day(told, number):
+    """Return the day of a set with a number, from 0 on, None if there is none."""
+    early, first, length, found = told
+    if number < len(early):
+        return early[number]
     if not found:
         return None
-    start = first + max(0, day - first) // length * length
-    at = place_of(found, day - start)
-    if at < len(found):
-        return start + found[at]
-    return start + length + found[0]
+    turns, at = divmod(number - len(early), len(found))
+    return first + length * turns + found[at]
+
+
+def day_from(told, day):
+    """Return the first day of a set that is not less than a day, None if there is none."""
+    return nth_day(told, many_before(told, day))
 
 
 def holds(told, day):
@@ -202,7 +212,7 @@ def nth_days(told):
     check_sets([told])
     early, first, length, found = told
     if not found:
-        raise NoDays((list(early), first, length, list(found)))
+        raise NoDays(copied(told))
     return shortened((early, [first + place for place in found], length))
 
 
@@ -211,7 +221,7 @@ def gaps(told):
     check_sets([told])
     early, first, length, found = told
     if not found and len(early) < 2:
-        raise NoDays((list(early), first, length, list(found)))
+        raise NoDays(copied(told))
     days = early + [first + place for place in found] + [first + length + place for place in found[:1]]
     distances = [late - soon for soon, late in zip(days, days[1:])]
     return min(distances), max(distances)

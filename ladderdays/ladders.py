@@ -3,7 +3,8 @@
 from math import gcd, lcm
 
 from ladderdays.errors import InvalidLadder
-from ladderdays.rounds import check_ladders, check_numbers, ended, first_numbers, narrowed, shortened, told_at
+from ladderdays.rounds import (check_ladders, check_numbers, copied, ended, first_numbers, narrowed, shortened,
+                               told_at)
 
 
 def shared(one, other):
@@ -65,7 +66,7 @@ def turned(ladder):
     check_ladders([ladder])
     early, turn, rise = shortened(ladder)
     if rise == 0:
-        raise InvalidLadder((list(ladder[0]), list(ladder[1]), ladder[2]))
+        raise InvalidLadder(copied(ladder))
     days, day = [], 0
     for number in range(turn[0] + 1 + rise):
         while told_at((early, turn, rise), day) < number:

@@ -1,4 +1,4 @@
-"""What days.py and ladders.py share: what is passed is tried, read, and brought into its least way.
+"""What the other files share: what is passed is tried, read, copied, and brought into its least way.
 
 The days of a set, counted from 0 on, are told by a ladder, too; so both have one least way.
 """
@@ -32,20 +32,27 @@ def is_set(told):
     return length >= 1 and ascends([-1] + early + [first]) and ascends([-1] + found + [length])
 
 
+def copied(thing):
+    """Return a thing with new lists in the place of all its lists."""
+    if isinstance(thing, list):
+        return [copied(part) for part in thing]
+    if isinstance(thing, tuple):
+        return tuple([copied(part) for part in thing])
+    return thing
+
+
 def check_ladders(ladders):
     """Raise InvalidLadder for the first ladder that is none."""
     for ladder in ladders:
         if not is_ladder(ladder):
-            early, turn, rise = ladder
-            raise InvalidLadder((list(early), list(turn), rise))
+            raise InvalidLadder(copied(ladder))
 
 
 def check_sets(sets):
     """Raise InvalidSet for the first set that is none."""
     for told in sets:
         if not is_set(told):
-            early, first, length, found = told
-            raise InvalidSet((list(early), first, length, list(found)))
+            raise InvalidSet(copied(told))
 
 
 def check_numbers(numbers):

@@ -43,7 +43,54 @@ PARAMETERS = {
     "after": ["ladder", "day", "times"],
     "still": ["ladder"],
     "settles": ["ladder", "day"],
+    "Calendar": ["years"],
+    "Calendar.date": ["day"],
+    "Calendar.day": ["date"],
+    "Calendar.year_starts": [],
+    "Calendar.month_starts": [],
+    "Calendar.dates": ["month", "day"],
+    "Calendar.last_days": [],
+    "Calendar.months_on": ["months"],
+    "Calendar.years_on": ["years"],
+    "Calendar.months": [],
+    "Almanac": ["calendar", "feasts"],
+    "days_of": ["almanac", "feast"],
+    "distances": ["almanac", "one", "other"],
+    "never_meeting": ["almanac"],
+    "needless": ["almanac"],
+    "busiest": ["almanac"],
+    "due": ["almanac", "term", "day"],
+    "ladder_of": ["almanac", "term"],
+    "never_later": ["almanac", "one", "other"],
+    "first_later": ["almanac", "one", "other"],
+    "slack": ["almanac", "one", "other"],
+    "last_start": ["almanac", "term", "day"],
+    "passing": ["almanac", "one", "other"],
+    "needless_steps": ["almanac", "term"],
+    "shortest": ["almanac", "steps", "term", "most"],
+    "spread": ["almanac", "term"],
 }
+
+# What is asked by a sign, or read off an object, as a function of this file.
+SIGNS = {"item": ["thing", "at"], "years_of": ["calendar"], "feasts_of": ["almanac"]}
+
+
+def item(thing, at):
+    return thing[at]
+
+
+def years_of(calendar):
+    return calendar.years
+
+
+def feasts_of(almanac):
+    return almanac.feasts
+
+
+def names_of(function):
+    """The names of the parameters of a function, a class or a method."""
+    name = function.__qualname__
+    return PARAMETERS[name] if name in PARAMETERS else SIGNS[name]
 
 
 def stop(number, frame):
@@ -57,6 +104,31 @@ def lists_in(thing):
     if isinstance(thing, (list, tuple)):
         for part in thing:
             yield from lists_in(part)
+
+
+def objects_in(thing):
+    """All objects of the program in a thing, also those that others hold."""
+    if isinstance(thing, (list, tuple)):
+        for part in thing:
+            yield from objects_in(part)
+    elif hasattr(thing, "__dict__") and not callable(thing):
+        yield thing
+        yield from objects_in(list(vars(thing).values()))
+
+
+def state(thing):
+    """What the objects in a thing hold, as it shows."""
+    return [repr(vars(found)) for found in objects_in(thing)]
+
+
+def held_by(thing):
+    """All lists that objects in a thing hold."""
+    return [part for found in objects_in(thing) for part in vars(found).values()]
+
+
+def twin(thing):
+    """A copy of a thing, with the same objects in it."""
+    return copy.deepcopy(thing, {id(found): found for found in objects_in(thing)})
 
 
 def spoil(thing):
@@ -92,29 +164,32 @@ class Case(unittest.TestCase):
 
     def ask(self, function, *passed):
         """What a function answers: by position and by name alike, in new lists, with nothing changed or kept."""
-        names = PARAMETERS[function.__name__]
+        names = names_of(function)
         self.assertEqual(len(names), len(passed))
-        original = copy.deepcopy(passed)
+        owner = getattr(function, "__self__", None)
+        original, before, held = twin(passed), state([owner, passed]), held_by([owner, passed])
         answer = function(*passed)
         wanted = repr(answer)
         self.told(passed, original, "what was passed")
-        self.apart_from(answer, passed)
+        self.apart_from(answer, passed, held)
         named = dict(reversed(list(zip(names, passed))))
         again = function(**named)
         self.told(passed, original, "what was passed by name")
-        self.apart_from(again, passed, answer)
+        self.apart_from(again, passed, answer, held)
         self.assertEqual(repr(again), wanted, "by position and by name unlike")
         kept = copy.deepcopy(answer)
+        unspoilt = [(found, list(found)) for found in lists_in(passed)]
         spoil(passed)
         self.assertEqual(repr(answer), wanted, "what was returned changes with what was passed")
         spoil(answer)
         spoil(again)
-        fresh = copy.deepcopy(original)
+        fresh = twin(original)
         third = function(*fresh)
         self.assertEqual(repr(third), wanted, "a later answer is unlike")
         self.told(fresh, original, "what was passed later")
-        for place, part in enumerate(original):
-            mend(passed[place], part)
+        self.told(state([owner, passed]), before, "what objects hold")
+        for found, content in unspoilt:
+            found[:] = content
         return kept
 
     def answers(self, function, passed, wanted):
@@ -123,8 +198,9 @@ class Case(unittest.TestCase):
 
     def refuses(self, function, passed, error, wanted):
         """A function refuses what is passed by just one class of error, with a value that is all its own."""
-        original = copy.deepcopy(passed)
-        named = dict(reversed(list(zip(PARAMETERS[function.__name__], passed))))
+        owner = getattr(function, "__self__", None)
+        original, before, objects = twin(passed), state([owner, passed]), held_by([owner, passed])
+        named = dict(reversed(list(zip(names_of(function), passed))))
         held = []
         for call in (lambda: function(*passed), lambda: function(**named), lambda: function(*passed)):
             with self.assertRaises(ValueError, msg=(function.__name__, passed)) as caught:
@@ -132,16 +208,11 @@ class Case(unittest.TestCase):
             self.assertIs(caught.exception.__class__, error, (function.__name__, passed, caught.exception))
             self.told(caught.exception.value, wanted, (function.__name__, passed))
             self.told(passed, original, "what was passed")
-            self.apart_from(caught.exception.value, passed, *held)
+            self.apart_from(caught.exception.value, passed, objects, *held)
             held.append(caught.exception.value)
             spoil(caught.exception.value)
             self.told(passed, original, "what was passed, behind a change of what the error holds")
-
-
-def mend(thing, original):
-    """Undo `spoil`."""
-    for spoilt, right in zip(list(lists_in(thing)), list(lists_in(original))):
-        spoilt[:] = right
+            self.told(state([owner, passed]), before, "what objects hold")
 
 
 # Sets, plainly

@@ -24,6 +24,38 @@ LADDERS = """
 [3, (-2, 0), (-2, None), (1, 1), ([], [6], 1), 2000000000000000000000000000001, ([], 0, 3, [0]), (0, 1, 2), (0, 1, 0), None]
 """
 
+CALENDARS = """
+>>> from ladderdays.calendars import Calendar
+>>> calendar = Calendar([[2, 3], [2, 4]])
+>>> [calendar.date(4), calendar.date(5), calendar.day((1, 1, 3)), calendar.year_starts(), calendar.dates(1, 3), len(calendar), calendar == Calendar([[2, 3], [2, 4], [2, 3], [2, 4]])]
+[(0, 1, 2), (1, 0, 0), 10, ([], 0, 11, [0, 5]), ([], 0, 11, [10]), 11, True]
+>>> [calendar.months_on(1), calendar.months()]
+[([], [2, 3, 5, 6, 6, 7, 8, 11, 12, 12, 12], 11), ([], [0, 0, 1, 1, 1, 2, 2, 3, 3, 3, 3], 4)]
+"""
+
+FEASTS = """
+>>> from ladderdays.calendars import Calendar
+>>> from ladderdays.feasts import Almanac, busiest, days_of, distances, needless, never_meeting
+>>> calendar = Calendar([[2, 3], [2, 4]])
+>>> almanac = Almanac(calendar, [("market", ("each", 3, 0)), ("fair", ("next", ("date", 0, 0), ("name", "market"))), ("fast", ("each", 3, 1))])
+>>> [almanac["fair"], distances(almanac, ("date", 0, 0), ("name", "market")), never_meeting(almanac), needless(almanac), busiest(almanac)]
+[([], 0, 33, [0, 6, 12, 18, 24, 27]), (0, 2), [('fair', 'fast'), ('market', 'fast')], [], (2, 0)]
+>>> [days_of(almanac, ("last", ("ends",), ("name", "fast"))), days_of(almanac, ("nth", 2, ("name", "market"), ("each", 12, 1))), days_of(almanac, ("not", ("either", ("name", "market"), ("name", "fast"))))]
+[([], 0, 33, [1, 4, 10, 13, 16, 19, 22, 25, 28, 31]), ([], 0, 12, [6]), ([], 0, 3, [2])]
+"""
+
+TERMS = """
+>>> from ladderdays.calendars import Calendar
+>>> from ladderdays.feasts import Almanac
+>>> from ladderdays.terms import due, first_later, ladder_of, last_start, needless_steps, passing, shortest, slack, spread
+>>> almanac = Almanac(Calendar([[2, 3], [2, 4]]), [("market", ("each", 3, 0))])
+>>> to, one = ("to", ("name", "market")), ("days", 1)
+>>> [due(almanac, [one, to], 4), ladder_of(almanac, [one, to]), ladder_of(almanac, [("work", 2, ("name", "market"))]), last_start(almanac, [one, to], 6), spread(almanac, [one, to]), needless_steps(almanac, [to, to])]
+[6, ([], [3, 3, 3], 3), ([], [6, 6, 6], 3), 5, (1, 3), [0, 1]]
+>>> [passing(almanac, [one], [to]), passing(almanac, [one], [("days", 3)]), slack(almanac, [one, to], [to, one]), first_later(almanac, [one, to], [to, one]), shortest(almanac, [one, to], [("work", 1, ("name", "market"))], 3)]
+[False, True, (-2, 1), 0, [0, 1]]
+"""
+
 
 README = os.path.join(os.path.dirname(os.path.dirname(os.path.abspath(__file__))), "README.md")
 
@@ -42,10 +74,19 @@ class Examples(Case):
     def test_ladders(self):
         self.run_all(LADDERS, "ladders.py", 4)
 
+    def test_calendars(self):
+        self.run_all(CALENDARS, "calendars.py", 4)
+
+    def test_feasts(self):
+        self.run_all(FEASTS, "feasts.py", 6)
+
+    def test_terms(self):
+        self.run_all(TERMS, "terms.py", 7)
+
     def test_readme(self):
         with open(README, encoding="utf-8") as file:
             blocks = [block for block in file.read().split("```")[1::2] if ">>>" in block]
-        self.run_all("".join(blocks), "README.md", 6)
+        self.run_all("".join(blocks), "README.md", 14)
 
 
 if __name__ == "__main__":

@@ -7,9 +7,12 @@ import os
 import unittest
 import warnings
 
+import ladderdays.calendars
 import ladderdays.days
 import ladderdays.errors
+import ladderdays.feasts
 import ladderdays.ladders
+import ladderdays.terms
 from tests.plain import PARAMETERS, Case
 
 FOLDER = os.path.dirname(ladderdays.days.__file__)
@@ -24,10 +27,22 @@ BUILTINS = set(dir(builtins)) - {"_"}
 LIBRARY = {"heapq": {"heappush", "heappop", "heapify", "heapreplace", "heappushpop"},
            "math": {"gcd", "lcm", "isqrt", "comb", "perm", "factorial"},
            "itertools": {"product", "combinations", "permutations"}}
-DAYS = ["has", "least_set", "set_of", "every", "both", "either", "but", "others", "moved", "first_apart", "meeting",
-        "next_day", "counts", "nth_days", "gaps"]
-LADDERS = ["value", "least_ladder", "joined", "earlier", "later", "plus", "first_from", "until", "alike",
-           "first_unlike", "first_less", "apart", "speed", "power", "after", "still", "settles"]
+FUNCTIONS = {
+    ladderdays.days: ["has", "least_set", "set_of", "every", "both", "either", "but", "others", "moved", "first_apart",
+                      "meeting", "next_day", "counts", "nth_days", "gaps"],
+    ladderdays.ladders: ["value", "least_ladder", "joined", "earlier", "later", "plus", "first_from", "until", "alike",
+                         "first_unlike", "first_less", "apart", "speed", "power", "after", "still", "settles"],
+    ladderdays.calendars: [],
+    ladderdays.feasts: ["days_of", "distances", "never_meeting", "needless", "busiest"],
+    ladderdays.terms: ["due", "ladder_of", "never_later", "first_later", "slack", "last_start", "passing",
+                       "needless_steps", "shortest", "spread"]}
+METHODS = {
+    ladderdays.calendars.Calendar: ["date", "day", "year_starts", "month_starts", "dates", "last_days", "months_on",
+                                    "years_on", "months"],
+    ladderdays.feasts.Almanac: []}
+PROPERTIES = {ladderdays.calendars.Calendar: ["years"], ladderdays.feasts.Almanac: ["calendar", "feasts"]}
+SIGNS = {ladderdays.calendars.Calendar: ["__init__", "__eq__", "__len__"],
+         ladderdays.feasts.Almanac: ["__init__", "__eq__", "__len__", "__getitem__", "__iter__"]}
 
 
 def sources():
@@ -37,22 +52,47 @@ def sources():
                 yield name, file.read()
 
 
+def tree_of(module):
+    """The tree of a file of the package."""
+    return ast.parse(dict(sources())[os.path.basename(module.__file__)])
+
+
 class Interface(Case):
+    def test_all_are_listed(self):
+        listed = [name for names in FUNCTIONS.values() for name in names]
+        listed += [cls.__name__ for cls in METHODS]
+        listed += [f"{cls.__name__}.{name}" for cls, names in METHODS.items() for name in names]
+        self.assertEqual(sorted(listed), sorted(PARAMETERS))
+
     def test_functions(self):
-        self.assertEqual(sorted(DAYS + LADDERS), sorted(PARAMETERS))
-        for module, names in ((ladderdays.days, DAYS), (ladderdays.ladders, LADDERS)):
+        for module, names in FUNCTIONS.items():
+            defined = [part.name for part in tree_of(module).body if isinstance(part, ast.FunctionDef)]
             for name in names:
                 function = getattr(module, name)
                 self.assertEqual(function.__module__, module.__name__)
                 self.assertEqual(list(inspect.signature(function).parameters), PARAMETERS[name])
-
-    def test_defined_where_listed(self):
-        trees = {name: ast.parse(text) for name, text in sources()}
-        for file, names in (("days.py", DAYS), ("ladders.py", LADDERS)):
-            defined = [part.name for part in trees[file].body if isinstance(part, ast.FunctionDef)]
-            for name in names:
                 self.assertEqual(defined.count(name), 1, name)
-        classes = [part.name for part in trees["errors.py"].body if isinstance(part, ast.ClassDef)]
+
+    def test_classes(self):
+        for cls, names in METHODS.items():
+            module = inspect.getmodule(cls)
+            self.assertEqual(list(inspect.signature(cls).parameters), PARAMETERS[cls.__name__])
+            found = [part for part in tree_of(module).body
+                     if isinstance(part, ast.ClassDef) and part.name == cls.__name__]
+            self.assertEqual(len(found), 1)
+            defined = {part.name: part for part in found[0].body if isinstance(part, ast.FunctionDef)}
+            for name in names:
+                self.assertEqual(list(inspect.signature(getattr(cls, name)).parameters),
+                                 ["self"] + PARAMETERS[f"{cls.__name__}.{name}"])
+                self.assertFalse(defined[name].decorator_list)
+            for name in PROPERTIES[cls]:
+                self.assertIsInstance(vars(cls)[name], property)
+                self.assertEqual([one.id for one in defined[name].decorator_list], ["property"])
+                self.assertIsNone(vars(cls)[name].fset)
+            self.assertEqual(sorted(SIGNS[cls]), sorted(name for name in defined if name.startswith("__")))
+
+    def test_errors(self):
+        classes = [part.name for part in tree_of(ladderdays.errors).body if isinstance(part, ast.ClassDef)]
         self.assertEqual(len(classes), 14)
         self.assertEqual(len(set(classes)), 14)
 
@@ -120,6 +160,58 @@ class Subset(Case):
                     self.assertNotIn(part.arg, BUILTINS, (name, part.lineno))
                 if isinstance(part, (ast.FunctionDef, ast.ClassDef)):
                     self.assertNotIn(part.name, BUILTINS, (name, part.lineno))
+
+    def test_no_import_is_given_another_meaning(self):
+        for name, text in sources():
+            tree = ast.parse(text)
+            taken = {one.name for part in tree.body if isinstance(part, ast.ImportFrom) for one in part.names}
+            taken |= {part.name for part in tree.body if isinstance(part, ast.ClassDef)}
+            for part in ast.walk(tree):
+                if isinstance(part, ast.Name) and not isinstance(part.ctx, ast.Load):
+                    self.assertNotIn(part.id, taken, (name, part.lineno))
+                if isinstance(part, ast.arg):
+                    self.assertNotIn(part.arg, taken, (name, part.lineno))
+                if isinstance(part, ast.FunctionDef) and part in tree.body:
+                    self.assertNotIn(part.name, taken, (name, part.lineno))
+
+    def test_imports_are_used(self):
+        for name, text in sources():
+            tree = ast.parse(text)
+            used = {part.id for part in ast.walk(tree) if isinstance(part, ast.Name)}
+            for part in tree.body:
+                if isinstance(part, ast.ImportFrom):
+                    self.assertEqual([one.name for one in part.names if one.name not in used], [], name)
+
+    def test_no_name_is_a_method_and_an_attribute(self):
+        for name, text in sources():
+            for cls in ast.walk(ast.parse(text)):
+                if isinstance(cls, ast.ClassDef):
+                    methods = {part.name for part in cls.body if isinstance(part, ast.FunctionDef)}
+                    stored = {part.attr for part in ast.walk(cls) if isinstance(part, ast.Attribute)
+                              and isinstance(part.ctx, ast.Store)}
+                    self.assertFalse(methods & stored, (name, cls.name))
+
+    def test_len_returns_a_len(self):
+        for name, text in sources():
+            for part in ast.walk(ast.parse(text)):
+                if isinstance(part, ast.FunctionDef) and part.name == "__len__":
+                    self.assertIsInstance(part.body[-1], ast.Return, name)
+                    for inner in ast.walk(part):
+                        if isinstance(inner, ast.Return):
+                            self.assertEqual(inner.value.func.id, "len", name)
+
+    def test_no_generator_expressions(self):
+        for name, text in sources():
+            for part in ast.walk(ast.parse(text)):
+                self.assertNotIsInstance(part, (ast.GeneratorExp, ast.Try, ast.Set), name)
+
+    def test_what_stands_at_module_level_holds_no_list(self):
+        for name, text in sources():
+            for part in ast.parse(text).body:
+                if isinstance(part, ast.Assign):
+                    inner = [one for one in ast.walk(part.value) if one is not part.value]
+                    lists = [one for one in inner if isinstance(one, (ast.List, ast.Dict))]
+                    self.assertFalse(lists, (name, part.lineno))
 
     def test_only_builtins_that_may_be_used(self):
         for name, text in sources():

@@ -1,13 +1,19 @@
-"""What parts tell of one another [11], of sets and ladders; and that what is returned may be passed on."""
+"""What parts tell of one another [11], of sets, ladders, calendars, feasts and terms; and that what is returned may
+be passed on."""
 
 import random
 import unittest
 
+from ladderdays.calendars import Calendar
 from ladderdays.days import (both, but, counts, either, every, first_apart, gaps, has, least_set, meeting, moved,
                              next_day, nth_days, others, set_of)
 from ladderdays.ladders import (after, alike, apart, earlier, first_from, first_less, first_unlike, joined, later,
                                 least_ladder, plus, power, settles, speed, still, until, value)
+from ladderdays.feasts import Almanac, busiest, days_of, distances, needless, never_meeting
+from ladderdays.terms import (due, first_later, ladder_of, last_start, needless_steps, never_later, passing, shortest,
+                              slack, spread)
 from tests.plain import Case, draw_ladder, draw_set, ladder_again, set_again
+from tests.reckon import draw_feast, draw_feasts, draw_term, draw_years
 
 NONE = ([], 0, 1, [])
 ALL = ([], 0, 1, [0])
@@ -25,6 +31,28 @@ def ladders(seed, many, *paces):
     chance = random.Random(seed)
     return [ladder_again(draw_ladder(chance, chance.choice(paces or PACES), most_turn=4), chance.randint(0, 3),
                          chance.randint(1, 2)) for _ in range(many)]
+
+
+def calendars(seed, many):
+    chance = random.Random(seed)
+    return [Calendar(draw_years(chance)) for _ in range(many)]
+
+
+def almanacs(seed, many):
+    """Almanacs, with some feasts for each."""
+    chance = random.Random(seed)
+    for calendar in [Calendar(draw_years(chance, 3, 2, 3)) for _ in range(many)]:
+        feasts = draw_feasts(chance, chance.randint(1, 4))
+        names = [name for name, _ in feasts]
+        yield Almanac(calendar, feasts), [draw_feast(chance, names, 2) for _ in range(3)]
+
+
+def terms(seed, many):
+    """Almanacs, with three terms and an endless feast for each."""
+    chance = random.Random(seed)
+    for almanac, feasts in almanacs(seed, many):
+        endless = [feast for feast in feasts if days_of(almanac, feast)[3]] + [("starts",)]
+        yield almanac, [draw_term(chance, endless, 1, 3) for _ in range(3)], endless[0]
 
 
 class OfSets(Case):
@@ -199,6 +227,208 @@ class OfLadders(Case):
         self.told(least_set(kept), kept)
         self.told(gaps(kept), (1, 2 * 10 ** 9 - 4))
         self.told(meeting(kept, every(2, 1)), 1)
+
+
+class OfCalendars(Case):
+    def test_dates_and_days(self):
+        for calendar in calendars(321, 40):
+            for day in list(range(40)) + [10 ** 30, 10 ** 30 + 1, 10 ** 31]:
+                date = calendar.date(day)
+                self.assertEqual(calendar.day(date), day)
+                self.assertTrue(has(calendar.dates(date[1], date[2]), day))
+                self.assertEqual(has(calendar.month_starts(), day), date[2] == 0)
+                self.assertEqual(has(calendar.year_starts(), day), date[1:] == (0, 0))
+                self.assertEqual(has(calendar.last_days(), day), calendar.date(day + 1)[2] == 0)
+
+    def test_sets(self):
+        for calendar in calendars(322, 40):
+            self.told(calendar.year_starts(), calendar.dates(0, 0))
+            self.told(calendar.last_days(), moved(calendar.month_starts(), -1))
+            self.told(but(calendar.year_starts(), calendar.month_starts()), NONE)
+            firsts, whole = NONE, NONE
+            for month in range(4):
+                firsts = either(firsts, calendar.dates(month, 0))
+                for place in range(5):
+                    days = calendar.dates(month, place)
+                    self.told(meeting(whole, days), None)
+                    whole = either(whole, days)
+            self.told(firsts, calendar.month_starts())
+            self.told(whole, ALL)
+
+    def test_months(self):
+        for calendar in calendars(323, 40):
+            months, starts = calendar.months(), calendar.month_starts()
+            self.told(joined(NEXT, counts(starts)), plus(months, ([], [1], 0)))
+            self.told(joined(nth_days(starts), months), SAME)
+            self.told(first_from(months), nth_days(starts))
+            to_end = ladder_of(Almanac(calendar, []), [("to", ("ends",))])
+            self.told(joined(months, nth_days(calendar.last_days())), to_end)
+            self.assertEqual(speed(months), speed(counts(starts)))
+
+    def test_months_and_years_on(self):
+        for calendar in calendars(324, 30):
+            months = calendar.months()
+            for number in (0, 1, 2, 5, 10 ** 30):
+                on, later_on = calendar.months_on(number), calendar.years_on(number)
+                self.told(joined(on, months), plus(months, ([], [number], 0)))
+                self.told(first_less(calendar.months_on(number + 1), on), None)
+                self.told(first_less(calendar.years_on(number + 1), later_on), None)
+                for day in (0, 3, 7, 10 ** 30 + 5):
+                    self.assertEqual(calendar.date(value(later_on, day))[0], calendar.date(day)[0] + number)
+                    self.assertLessEqual(calendar.date(value(on, day))[2], calendar.date(day)[2])
+            self.told(calendar.months_on(0), SAME)
+            self.told(calendar.years_on(0), SAME)
+            self.told(calendar.years_on(len(calendar.years)), ([], [len(calendar)], 1))
+
+    def test_told_twice(self):
+        for calendar in calendars(325, 30):
+            twice = Calendar(calendar.years * 2)
+            self.assertTrue(twice == calendar)
+            self.told(len(twice), 2 * len(calendar))
+            self.told(twice.months(), calendar.months())
+            for number in (1, 3, 10 ** 30):
+                self.told(twice.months_on(number), calendar.months_on(number))
+                self.told(twice.years_on(number), calendar.years_on(number))
+                self.told(twice.date(number), calendar.date(number))
+            self.told(twice.month_starts(), calendar.month_starts())
+            self.told(twice.dates(1, 1), calendar.dates(1, 1))
+            self.told(ladder_of(Almanac(twice, []), [("months", 1)]), calendar.months_on(1))
+
+
+class OfFeasts(Case):
+    def test_words_and_sets(self):
+        for almanac, (one, other, _) in almanacs(331, 80):
+            here, there, calendar = days_of(almanac, one), days_of(almanac, other), almanac.calendar
+            for feast, wanted in ((("both", one, other), both(here, there)),
+                                  (("either", one, other), either(here, there)),
+                                  (("but", one, other), but(here, there)), (("not", one), others(here)),
+                                  (("moved", -3, one), moved(here, -3)), (("moved", 4, one), moved(here, 4)),
+                                  (("starts",), calendar.month_starts()), (("ends",), calendar.last_days()),
+                                  (("date", 1, 0), calendar.dates(1, 0)), (("each", 4, 2), every(4, 2)),
+                                  (("on", [1, 3]), set_of([1, 3])), (("next", one, one), here),
+                                  (("last", one, one), here), (("nth", 1, one, one), here),
+                                  (("nth", 2, one, one), NONE)):
+                self.told(days_of(almanac, feast), wanted)
+
+    def test_next_last_and_nth(self):
+        for almanac, (one, other, _) in almanacs(332, 120):
+            here, there = days_of(almanac, one), days_of(almanac, other)
+            to, back = days_of(almanac, ("next", one, other)), days_of(almanac, ("last", one, other))
+            first = days_of(almanac, ("nth", 1, one, other))
+            self.told(but(to, there), NONE)
+            self.told(but(back, there), NONE)
+            self.told(but(first, here), NONE)
+            self.told(days_of(almanac, ("last", ("nth", 1, one, other), other)), back)
+            self.told(days_of(almanac, ("next", ("last", one, other), one)), first)
+            day = next_day(here, 0)
+            for _ in range(8):
+                if day is not None:
+                    late = next_day(there, day)
+                    self.assertTrue(late is None or has(to, late))
+                    day = next_day(here, day + 1)
+
+    def test_distances(self):
+        for almanac, (one, other, _) in almanacs(333, 100):
+            here, there = days_of(almanac, one), days_of(almanac, other)
+            found = distances(almanac, one, other)
+            self.told(found is None, here == NONE)
+            if here[3]:
+                least, greatest = gaps(here)
+                self.told(distances(almanac, ("moved", 1, one), one), (least - 1, greatest - 1))
+                self.told(distances(almanac, one, one), (0, 0))
+            if found is not None:
+                self.told(found[0] == 0, meeting(here, there) is not None)
+                self.told(found[1] == 0, but(here, there) == NONE)
+                self.told(found[0] is None, days_of(almanac, ("next", one, other)) == NONE)
+            if found is not None and there[3]:
+                lengths = apart(ladder_of(almanac, [("to", other)]), SAME)
+                self.assertLessEqual(lengths[0], found[0])
+                self.assertLessEqual(found[1], lengths[1])
+
+    def test_of_several(self):
+        for almanac, _ in almanacs(334, 120):
+            names = [name for name, _ in almanac.feasts]
+            pairs = [(name, other) for at, name in enumerate(names) for other in names[at + 1:]]
+            apart_all = [pair for pair in pairs if meeting(almanac[pair[0]], almanac[pair[1]]) is None]
+            self.told(never_meeting(almanac), sorted(apart_all))
+            alike_ones = {other for name, other in pairs if first_apart(almanac[name], almanac[other]) is None}
+            self.told(needless(almanac), [name for name in names if name in alike_ones])
+            number, day = busiest(almanac)
+            self.assertEqual(sum(has(almanac[name], day) for name in names), number)
+            self.assertEqual(number <= 1, len(apart_all) == len(pairs))
+
+
+class OfTerms(Case):
+    def test_ladders(self):
+        for almanac, (one, other, third), _ in terms(341, 80):
+            here, there = ladder_of(almanac, one), ladder_of(almanac, other)
+            self.told(ladder_of(almanac, one + other), joined(here, there))
+            self.told(ladder_of(almanac, [("earlier", one, other)]), earlier(here, there))
+            self.told(ladder_of(almanac, [("later", one, other)] + third),
+                      joined(later(here, there), ladder_of(almanac, third)))
+            self.told(ladder_of(almanac, []), SAME)
+            self.told(first_less(here, SAME), None)
+            self.told(speed(here), (1, 1))
+            for day in (0, 1, 5, 10 ** 30, 10 ** 31):
+                self.told(due(almanac, one, day), value(here, day))
+                self.told(due(almanac, one + other, day), due(almanac, other, due(almanac, one, day)))
+
+    def test_functions(self):
+        for almanac, (one, other, _), _ in terms(342, 80):
+            here, there = ladder_of(almanac, one), ladder_of(almanac, other)
+            self.told(first_later(almanac, one, other), first_less(there, here))
+            self.told(never_later(almanac, one, other), first_less(there, here) is None)
+            self.told(slack(almanac, one, other), apart(there, here))
+            self.told(spread(almanac, one), apart(here, SAME))
+            self.told(spread(almanac, one), slack(almanac, [], one))
+            self.told(passing(almanac, one, other), alike(joined(here, there), joined(there, here)))
+            for day in list(range(9)) + [value(here, 0), value(here, 0) + 40]:
+                starts = value(until(here), day)
+                self.told(last_start(almanac, one, day), starts - 1 if starts else None)
+
+    def test_needless_steps_and_shortest(self):
+        for almanac, (one, other, _), _ in terms(343, 80):
+            here = ladder_of(almanac, one)
+            without = [at for at in range(len(one)) if alike(ladder_of(almanac, one[:at] + one[at + 1:]), here)]
+            self.told(needless_steps(almanac, one), without)
+            found = shortest(almanac, one, one, len(one))
+            self.assertIsNotNone(found)
+            self.told(ladder_of(almanac, [one[at] for at in found]), here)
+            self.assertLess(len(found), len(one) + (0 if without else 1))
+            steps = (one + other)[:4]
+            found = shortest(almanac, steps, other, 2)
+            if found is not None:
+                self.told(ladder_of(almanac, [steps[at] for at in found]), ladder_of(almanac, other))
+
+    def test_goals(self):
+        for almanac, _, feast in terms(344, 80):
+            days = days_of(almanac, feast)
+            to, work = ladder_of(almanac, [("to", feast)]), ladder_of(almanac, [("work", 1, feast)])
+            self.told(still(to), days)
+            self.told(joined(to, to), to)
+            self.told(to, joined(counts(days), nth_days(days)))
+            self.told(work, joined(NEXT, to))
+            for number in (2, 3):
+                self.told(ladder_of(almanac, [("work", number, feast)]), power(work, number))
+            for day in (0, 4, 10 ** 30):
+                self.told(due(almanac, [("to", feast)], day), next_day(days, day))
+                self.told(due(almanac, [("work", 10 ** 30, feast)], day), after(work, day, 10 ** 30))
+                self.told(due(almanac, [("work", 7, feast)], day), after(work, day, 7))
+            self.told(due(almanac, [("work", 3, feast)], due(almanac, [("to", feast)], 0)), value(nth_days(days), 3))
+            self.told(still(ladder_of(almanac, [("not before", 5)])), every(1, 5))
+            self.told(speed(counts(days)), (speed(nth_days(days))[1], speed(nth_days(days))[0]))
+
+    def test_months_to_starts(self):
+        for calendar in calendars(345, 40):
+            almanac = Almanac(calendar, [])
+            on = ladder_of(almanac, [("months", 1)])
+            start = ladder_of(almanac, [("work", 1, ("starts",))])
+            self.told(first_less(on, start), None)
+            self.told(joined(start, on), ladder_of(almanac, [("work", 2, ("starts",))]))
+            self.told(ladder_of(almanac, [("to", ("starts",)), ("months", 2)]),
+                      ladder_of(almanac, [("to", ("starts",)), ("work", 2, ("starts",))]))
+            self.told(ladder_of(almanac, [("to", ("date", 0, 0)), ("years", 10 ** 30)]),
+                      ladder_of(almanac, [("to", ("date", 0, 0)), ("work", 10 ** 30, ("date", 0, 0))]))
 
 
 class PassedOn(Case):
