@@ -94,6 +94,34 @@ def rounds_meet(one, other):
     return any([(other[1] + place) % step in places for place in other[3]])
 
 
+def telling_days(sets):
+    """Return ascending days among which is the first one of each way in which sets can have a day or not.
+
+    It goes by the days that are told, not by all that lie between them: sets may lie anywhere.
+    """
+    marks, length = [0], 1
+    for told in sets:
+        marks.extend(told[0] + [told[1]])
+        length = lcm(length, told[2])
+    marks = sorted(set(marks))
+    days = []
+    # Between two marks all sets just go on as they do, so that a common round of days shows all that happens there.
+    for mark, behind in zip(marks, marks[1:] + [marks[-1] + length + 1]):
+        days.extend(list(range(mark, min(behind, mark + length + 1))))
+    return days
+
+
+def first_patterns(sets):
+    """Return, ascending, the tuples (day, pattern) of the first day of each pattern: for each set, in their order,
+    whether it has the day."""
+    least, found = [narrowed(told) for told in sets], {}
+    for day in telling_days(least):
+        pattern = tuple([holds(told, day) for told in least])
+        if pattern not in found:
+            found[pattern] = day
+    return [(day, pattern) for pattern, day in found.items()]
+
+
 def has(told, day):
     """Return True if a set has a day, otherwise False."""
     check_sets([told])

@@ -41,6 +41,15 @@ def copied(thing):
     return thing
 
 
+def lists_upto(many, most):
+    """Return, by length and then as lists, the ascending lists of at most so many of the first, so many, indexes."""
+    found, longest = [[]], [[]]
+    for _ in range(min(many, most)):
+        longest = [chosen + [at] for chosen in longest for at in range(chosen[-1] + 1 if chosen else 0, many)]
+        found.extend(longest)
+    return found
+
+
 def check_ladders(ladders):
     """Raise InvalidLadder for the first ladder that is none."""
     for ladder in ladders:

@@ -69,6 +69,25 @@ PARAMETERS = {
     "needless_steps": ["almanac", "term"],
     "shortest": ["almanac", "steps", "term", "most"],
     "spread": ["almanac", "term"],
+    "fitting": ["sets", "notes"],
+    "surely": ["sets", "notes"],
+    "maybe": ["sets", "notes"],
+    "fewest_looks": ["sets"],
+    "next_look": ["sets", "notes"],
+    "turns": ["least", "greatest", "notes"],
+    "explained": ["sets", "notes"],
+    "show_feast": ["feast"],
+    "show_term": ["term"],
+    "show_calendar": ["calendar"],
+    "show_almanac": ["almanac"],
+    "show_row": ["row"],
+    "show_ladder": ["ladder"],
+    "read_feast": ["text"],
+    "read_term": ["text"],
+    "read_calendar": ["text"],
+    "read_almanac": ["text"],
+    "read_row": ["text"],
+    "read_ladder": ["text"],
 }
 
 # What is asked by a sign, or read off an object, as a function of this file.
@@ -222,6 +241,12 @@ def days_of(told, end):
     early, first, length, found = told
     here, again = set(early), set(found)
     return [day in here or (day >= first and (day - first) % length in again) for day in range(end)]
+
+
+def set_has(told, day):
+    """Whether a set has a day, near or far."""
+    early, first, length, found = told
+    return day in early or (day >= first and (day - first) % length in found)
 
 
 def set_from(bits, first, length):

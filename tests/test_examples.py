@@ -56,6 +56,24 @@ TERMS = """
 [False, True, (-2, 1), 0, [0, 1]]
 """
 
+DIARIES = """
+>>> from ladderdays.days import every
+>>> from ladderdays.diaries import explained, fewest_looks, fitting, maybe, next_look, surely, turns
+>>> sets = [every(3, 0), every(2, 0), every(4, 0)]
+>>> [fitting(sets, [(0, True), (3, False)]), surely(sets, [(3, False)]), maybe(sets, [(3, False)]), fewest_looks(sets), next_look(sets, []), turns(1, 3, [(0, True), (1, False)]), explained(sets, [(3, True), (4, True), (1, False)])]
+[[1, 2], ([], 0, 4, [0]), ([], 0, 4, [2]), [2, 3], 2, [(2, 0), (3, 0)], [0, 1]]
+"""
+
+TEXTS = """
+>>> from ladderdays.readings import read_almanac, read_calendar, read_feast, read_ladder, read_row, read_term
+>>> from ladderdays.texts import show_almanac, show_calendar, show_feast, show_ladder, show_row, show_term
+>>> feast = ("either", ("each", 3, 0), ("moved", -1, ("name", "fair")))
+>>> [show_feast(feast), read_feast("((each 3 from 0) + (fair @ -1))") == feast, show_term([("days", 1), ("to", ("name", "market"))]), read_term("later [days 1] [to (starts)]"), show_ladder(([0], [1, 1, 1], 3)), read_ladder("- / 2 + 1"), show_row(read_row("5 / 1 -2"))]
+['((each 3 from 0) + (fair @ -1))', True, 'days 1, to market', [('later', [('days', 1)], [('to', ('starts',))])], '0 / 1 1 1 + 3', ([], [2], 1), '5 / 1 -2']
+>>> show_almanac(read_almanac("2 3; 2 4 | market: (each 3 from 0) | fair: ((date 0 0) > market)"))
+'2 3; 2 4 | market: (each 3 from 0) | fair: ((date 0 0) > market)'
+"""
+
 
 README = os.path.join(os.path.dirname(os.path.dirname(os.path.abspath(__file__))), "README.md")
 
@@ -83,10 +101,16 @@ class Examples(Case):
     def test_terms(self):
         self.run_all(TERMS, "terms.py", 7)
 
+    def test_diaries(self):
+        self.run_all(DIARIES, "diaries.py", 4)
+
+    def test_texts_and_readings(self):
+        self.run_all(TEXTS, "readings.py", 5)
+
     def test_readme(self):
         with open(README, encoding="utf-8") as file:
             blocks = [block for block in file.read().split("```")[1::2] if ">>>" in block]
-        self.run_all("".join(blocks), "README.md", 14)
+        self.run_all("".join(blocks), "README.md", 22)
 
 
 if __name__ == "__main__":

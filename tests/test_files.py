@@ -9,10 +9,13 @@ import warnings
 
 import ladderdays.calendars
 import ladderdays.days
+import ladderdays.diaries
 import ladderdays.errors
 import ladderdays.feasts
 import ladderdays.ladders
+import ladderdays.readings
 import ladderdays.terms
+import ladderdays.texts
 from tests.plain import PARAMETERS, Case
 
 FOLDER = os.path.dirname(ladderdays.days.__file__)
@@ -35,7 +38,10 @@ FUNCTIONS = {
     ladderdays.calendars: [],
     ladderdays.feasts: ["days_of", "distances", "never_meeting", "needless", "busiest"],
     ladderdays.terms: ["due", "ladder_of", "never_later", "first_later", "slack", "last_start", "passing",
-                       "needless_steps", "shortest", "spread"]}
+                       "needless_steps", "shortest", "spread"],
+    ladderdays.diaries: ["fitting", "surely", "maybe", "fewest_looks", "next_look", "turns", "explained"],
+    ladderdays.texts: ["show_feast", "show_term", "show_calendar", "show_almanac", "show_row", "show_ladder"],
+    ladderdays.readings: ["read_feast", "read_term", "read_calendar", "read_almanac", "read_row", "read_ladder"]}
 METHODS = {
     ladderdays.calendars.Calendar: ["date", "day", "year_starts", "month_starts", "dates", "last_days", "months_on",
                                     "years_on", "months"],
@@ -203,7 +209,14 @@ class Subset(Case):
     def test_no_generator_expressions(self):
         for name, text in sources():
             for part in ast.walk(ast.parse(text)):
-                self.assertNotIsInstance(part, (ast.GeneratorExp, ast.Try, ast.Set), name)
+                self.assertNotIsInstance(part, (ast.GeneratorExp, ast.Set), name)
+
+    def test_only_own_errors_are_caught(self):
+        for name, text in sources():
+            for part in ast.walk(ast.parse(text)):
+                if isinstance(part, ast.Try):
+                    self.assertFalse(part.finalbody + part.orelse, (name, part.lineno))
+                    self.assertEqual([one.type.id for one in part.handlers], ["DaysError"], (name, part.lineno))
 
     def test_what_stands_at_module_level_holds_no_list(self):
         for name, text in sources():
