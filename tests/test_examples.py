@@ -74,6 +74,51 @@ TEXTS = """
 '2 3; 2 4 | market: (each 3 from 0) | fair: ((date 0 0) > market)'
 """
 
+SUMS = """
+>>> from ladderdays.sums import added_up, amounts, can_keep, firmest, first_over, first_under, is_tight, least, most, tightest, where_least, where_most
+>>> row = ([], [1, 0, 2])
+>>> [added_up(row), amounts(added_up(row)), most(row), least(row), where_most(row, 2), where_least(row, 1)]
+[([], [0, 1, 1], 3), ([], [1, 0, 2]), ([], [0, 2, 3], 3), ([], [0, 0, 1], 3), 2, 1]
+>>> [first_over(row, ([], [0, 2, 2], 3)), first_over(row, ([], [0, 2, 3], 3)), first_under(row, ([], [0], 1)), is_tight(([0, 2], [10], 1), 2)]
+[(2, 2), None, (1, 1), False]
+>>> [can_keep(([], [0, 1], 1), ([0, 0], [1], 0)), can_keep(([0], [1], 0), ([], [0], 1))]
+[None, 2]
+>>> [tightest(([0, 2], [10], 1)), firmest(([0, 0], [3], 0))]
+[([0, 2, 4, 6, 8, 10, 12, 14], [16], 1), ([], [0, 0], 3)]
+"""
+
+QUEUES = """
+>>> from ladderdays.queues import days_done, days_of_coming, done, first_to_wait, first_unlike_order, greatest_undone, greatest_wait, idle_days, in_a_row, least_office, most_undone, office_for, undone, waits
+>>> arrivals, office = ([], [2, 0, 0, 0]), ([], [1])
+>>> [done(arrivals, office), undone(arrivals, office, 4), most_undone(arrivals, office), most_undone(([], [2]), office), days_of_coming(arrivals), days_done(arrivals, office)]
+[([], [1, 1, 0, 0]), 1, (1, 0), None, ([], [0, 0], 4), ([], [0, 1], 4)]
+>>> [waits(arrivals, office), first_to_wait(arrivals, office, 1), in_a_row(arrivals, [office, ([], [0, 3])]), greatest_undone(([], [0, 3], 4), ([], [0], 2)), greatest_wait(([], [0, 3], 4), ([], [0], 2)), least_office(arrivals, 0), least_office(arrivals, 1), office_for(arrivals, 1), idle_days(arrivals, office)]
+[(0, 1), 1, [([], [1, 1, 0, 0]), ([], [0, 2, 0, 0])], 1, 1, 2, 1, 1, ([], 0, 4, [2, 3])]
+"""
+
+ROSTERS = """
+>>> from ladderdays.days import every
+>>> from ladderdays.rosters import ahead, breaches, days_with, exchanged, exchanges, fewest, row_of, strength, thin_days, turning, workers
+>>> roster = [("ann", every(2, 0)), ("bob", every(2, 1))]
+>>> [row_of(every(3, 1)), days_with(([], [1, 0, 2]), 1), workers(roster, 3), strength(roster), thin_days(roster, 2), exchanged(roster, "ann", 0, "bob", 1)]
+[([], [0, 1, 0]), ([], 0, 3, [0, 2]), ['bob'], ([], [1]), ([], 0, 1, [0]), [('ann', ([1], 2, 2, [0])), ('bob', ([0], 2, 2, [1]))]]
+>>> [breaches(exchanged(roster, "ann", 0, "bob", 1), ([], [0, 1], 1), ([], [0], 0)), ahead(roster, "ann", "bob"), turning(["ann", "bob"], every(3, 0), 1), fewest([every(2, 0), every(3, 0), every(2, 1)], 1, 3), exchanges(roster, "ann", "bob", 4, ([0], [1, 2], 1))]
+[[('ann', 2, 1)], (0, 1), [('ann', ([], 0, 3, [0])), ('bob', ([], 0, 3, [1]))], [0, 2], [(0, 1), (2, 1), (2, 3)]]
+"""
+
+DESKS = """
+>>> from ladderdays.calendars import Calendar
+>>> from ladderdays.desks import Desk
+>>> from ladderdays.feasts import Almanac
+>>> desk = Desk(Almanac(Calendar([[2, 3], [2, 4]]), []))
+>>> told = [desk.order("feast market: (each 3 from 0)"), desk.order("term pay: days 1, to market"), desk.order("due pay 4"), desk.order("row in: - / 2 0 0 0"), desk.order("row out: - / 1"), desk.order("line in out"), desk.order("branch b")]
+>>> told
+['done', 'done', '6', 'done', 'done', '- / 1 1 0 0 : 1', 'done']
+>>> [desk.order("hire ann: market"), desk.order("who 3"), desk.order("switch b"), desk.order("who 3"), len(desk), desk.order("undo"), desk.fork, desk.order("names"), desk.rested(([], [0, 1], 1))]
+['done', 'ann', 'done', '-', 7, 'done', 'main', 'in out pay', ['ann']]
+"""
+
+
 
 README = os.path.join(os.path.dirname(os.path.dirname(os.path.abspath(__file__))), "README.md")
 
@@ -107,10 +152,22 @@ class Examples(Case):
     def test_texts_and_readings(self):
         self.run_all(TEXTS, "readings.py", 5)
 
+    def test_sums(self):
+        self.run_all(SUMS, "sums.py", 6)
+
+    def test_queues(self):
+        self.run_all(QUEUES, "queues.py", 4)
+
+    def test_rosters(self):
+        self.run_all(ROSTERS, "rosters.py", 5)
+
+    def test_desks(self):
+        self.run_all(DESKS, "desks.py", 7)
+
     def test_readme(self):
         with open(README, encoding="utf-8") as file:
             blocks = [block for block in file.read().split("```")[1::2] if ">>>" in block]
-        self.run_all("".join(blocks), "README.md", 22)
+        self.run_all("".join(blocks), "README.md", 36)
 
 
 if __name__ == "__main__":

@@ -9,11 +9,15 @@ import warnings
 
 import ladderdays.calendars
 import ladderdays.days
+import ladderdays.desks
 import ladderdays.diaries
 import ladderdays.errors
 import ladderdays.feasts
 import ladderdays.ladders
+import ladderdays.queues
 import ladderdays.readings
+import ladderdays.rosters
+import ladderdays.sums
 import ladderdays.terms
 import ladderdays.texts
 from tests.plain import PARAMETERS, Case
@@ -41,14 +45,26 @@ FUNCTIONS = {
                        "needless_steps", "shortest", "spread"],
     ladderdays.diaries: ["fitting", "surely", "maybe", "fewest_looks", "next_look", "turns", "explained"],
     ladderdays.texts: ["show_feast", "show_term", "show_calendar", "show_almanac", "show_row", "show_ladder"],
-    ladderdays.readings: ["read_feast", "read_term", "read_calendar", "read_almanac", "read_row", "read_ladder"]}
+    ladderdays.readings: ["read_feast", "read_term", "read_calendar", "read_almanac", "read_row", "read_ladder"],
+    ladderdays.sums: ["added_up", "amounts", "most", "least", "where_most", "where_least", "first_over", "first_under",
+                      "tightest", "firmest", "is_tight", "is_firm", "can_keep", "row_within"],
+    ladderdays.queues: ["done", "undone", "most_undone", "days_of_coming", "days_done", "waits", "first_to_wait",
+                        "in_a_row", "first_unlike_order", "greatest_undone", "greatest_wait", "least_office",
+                        "office_for", "idle_days"],
+    ladderdays.rosters: ["row_of", "days_with", "workers", "strength", "thin_days", "breaches", "exchanged",
+                         "exchanges", "ahead", "turning", "fewest"],
+    ladderdays.desks: []}
 METHODS = {
     ladderdays.calendars.Calendar: ["date", "day", "year_starts", "month_starts", "dates", "last_days", "months_on",
                                     "years_on", "months"],
-    ladderdays.feasts.Almanac: []}
-PROPERTIES = {ladderdays.calendars.Calendar: ["years"], ladderdays.feasts.Almanac: ["calendar", "feasts"]}
+    ladderdays.feasts.Almanac: [],
+    ladderdays.desks.Desk: ["forks", "names", "feast", "term", "row", "hire", "leave", "exchange", "branch", "switch",
+                            "undo", "due", "ladder", "line", "rested", "order"]}
+PROPERTIES = {ladderdays.calendars.Calendar: ["years"], ladderdays.feasts.Almanac: ["calendar", "feasts"],
+              ladderdays.desks.Desk: ["almanac", "fork", "roster"]}
 SIGNS = {ladderdays.calendars.Calendar: ["__init__", "__eq__", "__len__"],
-         ladderdays.feasts.Almanac: ["__init__", "__eq__", "__len__", "__getitem__", "__iter__"]}
+         ladderdays.feasts.Almanac: ["__init__", "__eq__", "__len__", "__getitem__", "__iter__"],
+         ladderdays.desks.Desk: ["__init__", "__len__"]}
 
 
 def sources():
