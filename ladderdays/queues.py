@@ -6,7 +6,7 @@ from ladderdays.days import parted
 from ladderdays.errors import NoDays
 from ladderdays.ladders import apart, first_from, joined, shared, until
 from ladderdays.rounds import check_numbers, copied, told_at
-from ladderdays.sums import added_up, check_amounts, check_bounds, firmest, row_by, row_numbers, tightest
+from ladderdays.sums import added_up, check_amounts, firmest, row_by, row_numbers, tightest
 
 
 def check_endless(rows):
@@ -240,14 +240,12 @@ def first_unlike_order(arrivals, one, other):
 def greatest_undone(above, below):
     """Return the greatest number that can be undone, for all arrivals that keep a bound from above and all offices
     that keep one from below, None if there is none."""
-    check_bounds([above, below])
     return apart(tightest(above), firmest(below))[1]
 
 
 def greatest_wait(above, below):
     """Return the most days that a thing can wait, for all arrivals that keep a bound from above and all offices that
     keep one from below, 0 if nothing can come, None if there is none."""
-    check_bounds([above, below])
     come, can = tightest(above), firmest(below)
     if told_at(come, 1) == 0:
         return 0
@@ -273,7 +271,6 @@ def office_for(arrivals, days):
 
 def idle_days(arrivals, office):
     """Return the set of the days on which the office does less than it can."""
-    check_amounts([arrivals, office])
     row = done(arrivals, office)
     start, length = shared(row, office)
     days = days_told([row, office], start + length)

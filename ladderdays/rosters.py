@@ -83,8 +83,6 @@ def strength(roster):
 
 def thin_days(roster, number):
     """Return the set of the days on which fewer than a number work."""
-    check_roster(roster)
-    check_numbers([number])
     return others(days_with(strength(roster), number))
 
 

@@ -33,7 +33,6 @@ def row_by(numbers, length):
 
 def extremes(row, sign):
     """Return the bound that tells the greatest sums of stretches, or, by the sign -1, the least ones."""
-    check_amounts([row])
     whole = added_up(row)
     many = len(whole[0]) + len(whole[1])
     # A stretch that begins behind the first round has the sum of one that begins a round earlier.
@@ -200,7 +199,6 @@ def is_firm(bound, length):
 def can_keep(above, below):
     """Return None if some row of amounts keeps the one bound from above and the other one from below, otherwise the
     least length of which the firmest of the one from below tells more than the tightest of the one from above."""
-    check_bounds([above, below])
     return first_less(tightest(above), firmest(below))
 
 

@@ -18,10 +18,13 @@ NEVER = ([], [0], 0)
 
 
 def pairs(seed, times, **limits):
-    """Rows of arrivals and of offices: such as keep up, such as fall behind, such as have an end."""
+    """Rows of arrivals and of offices: such as keep up, such as just do, such as fall behind, such as have an end."""
     chance = random.Random(seed)
     for _ in range(times):
-        yield draw_row(chance, **limits), draw_row(chance, **limits)
+        arrivals, office = draw_row(chance, **limits), draw_row(chance, **limits)
+        if chance.random() < 0.25:
+            office = office[0], chance.sample(arrivals[1], len(arrivals[1]))
+        yield arrivals, office
 
 
 def endless(*rows):
@@ -196,7 +199,7 @@ class Waits(Case):
                 self.refuses(waits, (arrivals, office), NoDays, office if endless(arrivals) else arrivals)
 
     def test_by_hand(self):
-        for arrivals, office, wanted in ((ONE, ONE, (0, 0)), (ONE, ([0], [1]), (1, 1)), (([5], [1]), ONE, (0, 4)),
+        for arrivals, office, wanted in ((ONE, ONE, (0, 0)), (ONE, ([0], [1]), (1, 1)), (([], [2, 0, 0, 2]), ONE, (0, 2)), (([5], [1]), ONE, (0, 4)),
                                          (([], [2]), ONE, (0, None)), (([], [2]), ([0] * 5, [1]), (5, None)),
                                          (([1000], [0, 1]), ONE, (0, 999)),
                                          (([0, 0, 0, 1], [0, 1]), ([0] * 60, [0, 1]), (58, 58)),
@@ -268,8 +271,8 @@ class InARow(Case):
     def test_the_order(self):
         chance = random.Random(1042)
         unlike = 0
-        for _ in range(400):
-            arrivals, one, other = [draw_row(chance, 3, 3) for _ in range(3)]
+        for at in range(500):
+            arrivals, one, other = [draw_row(chance, 9 if at % 6 == which else 3, 3) for which in range(3)]
             start, length = common_of([arrivals, one, other])
             many = start + length * (sum(arrivals[0]) + sum(arrivals[1]) + 40)
             wanted = plain_orders(arrivals, one, other, min(many, 4000))
@@ -279,13 +282,20 @@ class InARow(Case):
                 self.told(in_a_row(arrivals, [one, other])[-1], in_a_row(arrivals, [other, one])[-1])
             else:
                 self.assertNotEqual(in_a_row(arrivals, [one, other])[-1], in_a_row(arrivals, [other, one])[-1])
-        self.assertTrue(40 < unlike < 360, unlike)
+        self.assertTrue(60 < unlike < 400, unlike)
 
     def test_the_order_by_hand(self):
         for arrivals, one, other, wanted in ((ONE, ONE, ONE, None), (ONE, ONE, NOTHING, None), (([], [9]), ONE, ([], [2]), None),
                                              (([1], [0]), ([0], [1]), ([], [1, 0]), 1),
                                              (([], [2]), ([], [2, 0]), ([], [0, 2]), 1),
-                                             (([], [1, 0]), ([], [1, 0]), ([], [0, 1]), 1)):
+                                             (([], [1, 0]), ([], [1, 0]), ([], [0, 1]), 1),
+                                             (([0] * 7 + [5], [0]), ([], [1, 0]), ([], [0, 1]), 8),
+                                             (([], [1]), ([1] * 7, [0, 2]), ([], [1, 0]), None),
+                                             (([0] * 6, [1]), ([9] * 8, [0, 2]), ([9] * 8, [2, 0]), 9),
+                                             (([0] * 6, [1]), ([], [9]), ([9] * 8, [2, 0]), None),
+                                             (([0] * 4, [1, 0]), ([], [0, 2, 0]), ([0], [2, 1]), 10),
+                                             (([0] * 5, [0, 1]), ([0] * 4, [1, 0]), ([2, 0, 0], [1, 0]), 7),
+                                             (([0], [0, 0, 2]), ([0], [0, 0, 3]), ([16], [2, 0]), 7)):
             self.answers(first_unlike_order, (arrivals, one, other), wanted)
 
     def test_orders_with_much_left_for_long(self):
