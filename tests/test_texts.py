@@ -254,7 +254,8 @@ class Unreadables(ReadCase):
             "earlier [days 1] [days -2]", "later [days 1] [to]", "later [to a] [to (a]", "later [to (a & b] [-])",
             "later [to (a & b)] -", "latest [-] [-]", "later [-] [-],", "[-]", "[days 1]", "(days 1)", "a", "(starts)",
             "earlier [" * 300, "later [-] [" * 270, "[" * 3000, "earlier [days 1,] [-]", "earlier [a] [b]",
-            "earlier a [b]", "to to to", "days 1, , days 2", ",", ", ", "to (starts),", "to a,b")
+            "earlier a [b]", "earlier a [-]", "earlier [-] a", "later (starts) [-]", "later [-] (starts)", "later - [-]",
+            "later [-] -", "to to to", "days 1, , days 2", ",", ", ", "to (starts),", "to a,b")
 
     def test_calendars(self):
         self.unreadable(
